@@ -9,7 +9,7 @@ import (
 	"loop.example/g01322/impl"
 )
 
-// call is a call of a function of chapter 1, with the code that the document requires.
+// call is a call of a function, with the code that the document requires.
 type call struct {
 	name      string
 	arguments []any
@@ -55,13 +55,26 @@ func checkCall(t *testing.T, c call) {
 		if code != int64(impl.OK) && !empty {
 			t.Errorf("%s: got %v beside the code %d", c, value, code)
 		}
-		if p, ok := value.(impl.Picture); ok && code == int64(impl.OK) && !impl.ValidPicture(p) {
-			t.Errorf("%s: got the picture %v, which is not valid", c, p)
+		if code == int64(impl.OK) && !isValidResult(value) {
+			t.Errorf("%s: got %v, which is not valid", c, value)
 		}
 	}
 	if second := c.run(); !reflect.DeepEqual(first, second) {
 		t.Errorf("%s: got %v, and then %v", c, first, second)
 	}
+}
+
+// isValidResult tells whether a value is valid, if its kind has validity.
+func isValidResult(value any) bool {
+	switch v := value.(type) {
+	case impl.Picture:
+		return impl.ValidPicture(v)
+	case impl.Image:
+		return impl.ValidImage(v)
+	case impl.Palette:
+		return impl.ValidPalette(v)
+	}
+	return true
 }
 
 // goodAndBad are pictures of the least and the greatest sizes and of sizes between, and some that are not valid.
