@@ -73,6 +73,8 @@ func isValidResult(value any) bool {
 		return impl.ValidImage(v)
 	case impl.Palette:
 		return impl.ValidPalette(v)
+	case impl.Stone:
+		return impl.ValidStone(v)
 	}
 	return true
 }
