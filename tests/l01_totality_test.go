@@ -75,6 +75,10 @@ func isValidResult(value any) bool {
 		return impl.ValidPalette(v)
 	case impl.Stone:
 		return impl.ValidStone(v)
+	case impl.Row:
+		return impl.ValidRow(v)
+	case []impl.Row:
+		return !slices.ContainsFunc(v, func(r impl.Row) bool { return !impl.ValidRow(r) })
 	}
 	return true
 }
