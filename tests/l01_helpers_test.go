@@ -1,6 +1,7 @@
 package tests
 
 import (
+	"iter"
 	"math"
 	"reflect"
 	"slices"
@@ -48,6 +49,23 @@ func rowsOf(p impl.Picture) []string {
 // textOf returns the text that rows should have.
 func textOf(rows []string) string {
 	return strings.Join(rows, "\n") + "\n"
+}
+
+// changedTexts goes through all texts with another byte at one place of a text, with one more byte ahead of it, or with one byte less.
+func changedTexts(text string) iter.Seq[string] {
+	return func(yield func(string) bool) {
+		for place := range len(text) {
+			for letter := range 256 {
+				other := string([]byte{byte(letter)})
+				if !yield(text[:place]+other+text[place+1:]) || !yield(text[:place]+other+text[place:]) {
+					return
+				}
+			}
+			if !yield(text[:place] + text[place+1:]) {
+				return
+			}
+		}
+	}
 }
 
 func example() impl.Picture { return drawn("aab", "abb") }

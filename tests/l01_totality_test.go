@@ -79,6 +79,8 @@ func isValidResult(value any) bool {
 		return impl.ValidRow(v)
 	case []impl.Row:
 		return !slices.ContainsFunc(v, func(r impl.Row) bool { return !impl.ValidRow(r) })
+	case []impl.Job:
+		return impl.ValidJobs(v)
 	}
 	return true
 }

@@ -89,22 +89,18 @@ func TestTextsOfNoPalette(t *testing.T) {
 // TestEveryByteOfAPaletteCounts puts each byte at each place of a text, ahead of it, or leaves it away; what is read must have this text.
 func TestEveryByteOfAPaletteCounts(t *testing.T) {
 	text := "#0a9f5e #000000"
-	for place := range len(text) {
-		for letter := range 256 {
-			for _, changed := range []string{text[:place] + string([]byte{byte(letter)}) + text[place+1:], text[:place] + string([]byte{byte(letter)}) + text[place:], text[:place] + text[place+1:]} {
-				var want impl.Palette
-				for word := range strings.SplitSeq(changed, " ") {
-					var a impl.Tone
-					if n, _ := fmt.Sscanf(word, "#%02x%02x%02x", &a[0], &a[1], &a[2]); n == 3 && fmt.Sprintf("#%x", a[:]) == word {
-						want = append(want, a)
-					}
-				}
-				good := len(want) == 2 && want[0] != want[1] && impl.ToneText(want[0])+" "+impl.ToneText(want[1]) == changed
-				p, code := impl.ReadPalette(changed)
-				if good && (code != impl.OK || !impl.SamePalette(p, want)) || !good && (code != impl.ErrSyntax || len(p) != 0) {
-					t.Errorf("%q: got %v with the code %d", changed, p, code)
-				}
+	for changed := range changedTexts(text) {
+		var want impl.Palette
+		for word := range strings.SplitSeq(changed, " ") {
+			var a impl.Tone
+			if n, _ := fmt.Sscanf(word, "#%02x%02x%02x", &a[0], &a[1], &a[2]); n == 3 && fmt.Sprintf("#%x", a[:]) == word {
+				want = append(want, a)
 			}
+		}
+		good := len(want) == 2 && want[0] != want[1] && impl.ToneText(want[0])+" "+impl.ToneText(want[1]) == changed
+		p, code := impl.ReadPalette(changed)
+		if good && (code != impl.OK || !impl.SamePalette(p, want)) || !good && (code != impl.ErrSyntax || len(p) != 0) {
+			t.Errorf("%q: got %v with the code %d", changed, p, code)
 		}
 	}
 }

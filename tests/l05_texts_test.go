@@ -79,13 +79,9 @@ func TestTextsOfNoRow(t *testing.T) {
 func TestEveryByteOfARowCounts(t *testing.T) {
 	text := "10,200,3,19"
 	good := 0
-	for place := range len(text) {
-		for letter := range 256 {
-			for _, changed := range []string{text[:place] + string([]byte{byte(letter)}) + text[place+1:], text[:place] + string([]byte{byte(letter)}) + text[place:], text[:place] + text[place+1:]} {
-				if wantReadRow(t, changed) {
-					good++
-				}
-			}
+	for changed := range changedTexts(text) {
+		if wantReadRow(t, changed) {
+			good++
 		}
 	}
 	if good < 100 {
